@@ -1,0 +1,1 @@
+"""Staybars: what stays while nets change."""

@@ -1,0 +1,150 @@
+"""[1]: names, kinds, sequences of errors and what is new, looked at for each function of the interface."""
+
+import copy
+import importlib
+import inspect
+import itertools
+import unittest
+
+import staybars.errors
+from tests.helpers import Checks, odd_values, outcome, shown
+from tests.interface import CASES
+
+
+def function_of(case):
+    return getattr(importlib.import_module("staybars." + case.module), case.name)
+
+
+def error_of(step):
+    return getattr(staybars.errors, step.error)
+
+
+def sizes(value):
+    """How many lists and dicts stand in a value."""
+    if isinstance(value, dict):
+        return 1 + sum(sizes(held) for held in value.values())
+    if isinstance(value, (list, tuple)):
+        return isinstance(value, list) + sum(sizes(held) for held in value)
+    return 0
+
+
+def spoil(value):
+    """Change each list and dict within a value."""
+    if isinstance(value, (list, tuple)):
+        for held in value:
+            spoil(held)
+    if isinstance(value, list):
+        value.append("spoilt")
+    if isinstance(value, dict):
+        value["spoilt"] = True
+
+
+class TestInterface(Checks):
+    def test_each_stands_in_its_file_with_its_names(self):
+        for case in CASES:
+            with self.subTest(case.name):
+                function = function_of(case)
+                self.assertTrue(inspect.isfunction(function))
+                self.assertEqual(function.__module__, "staybars." + case.module)
+                self.assertEqual(tuple(inspect.signature(function).parameters), case.names)
+
+    def test_arguments_by_place_and_by_name_in_any_sequence(self):
+        for case in CASES:
+            function = function_of(case)
+            for args in case.good:
+                with self.subTest(case.name, args=args):
+                    told = function(*args)
+                    for names in itertools.islice(itertools.permutations(case.names), 24):
+                        named = case.named(args)
+                        self.assertEqual(function(**{name: named[name] for name in names}), told)
+
+    def test_arguments_stay_as_they_are(self):
+        for case in CASES:
+            function = function_of(case)
+            for args in case.good:
+                with self.subTest(case.name, args=args):
+                    before = copy.deepcopy(args)
+                    function(*args)
+                    self.assertEqual(args, before)
+                    self.assertEqual(repr(args), repr(before))
+
+    def test_told_lists_and_dicts_are_new(self):
+        for case in CASES:
+            function = function_of(case)
+            for args in case.good:
+                with self.subTest(case.name, args=args):
+                    told = function(*args)
+                    kept = copy.deepcopy(told)
+                    spoil(told)
+                    if sizes(told):
+                        self.assertNotEqual(told, kept)
+                    again = function(*args)
+                    self.assertEqual(again, kept)
+                    self.assertIs(type(again), type(kept))
+
+    def test_one_told_twice_is_not_one_list(self):
+        for case in CASES:
+            for args in case.good:
+                told = function_of(case)(*args)
+                if isinstance(told, list):
+                    inner = [held for held in told if isinstance(held, (list, dict))]
+                    self.assertEqual(len({id(held) for held in inner}), len(inner), case.name)
+
+    def test_each_wrong_value_raises_its_error_with_it(self):
+        for case in CASES:
+            for step in case.steps:
+                for wrong in step.wrong:
+                    for args in case.good[:1]:
+                        with self.subTest(case.name, error=step.error, wrong=shown(wrong)):
+                            named = {**case.named(args), **dict(zip(step.names, wrong))}
+                            self.expect(case, step, named)
+
+    def test_the_error_that_is_named_first_is_raised(self):
+        for case in CASES:
+            for many in range(2, len(case.steps) + 1):
+                for steps in itertools.combinations(case.steps, many):
+                    with self.subTest(case.name, errors=[step.error for step in steps]):
+                        named = case.named(case.good[0])
+                        for step in reversed(steps):
+                            named.update(dict(zip(step.names, step.wrong[0])))
+                        self.expect(case, steps[0], named)
+
+    def expect(self, case, step, named):
+        values = [named[name] for name in step.told]
+        if len(step.told) == 1:
+            self.raises(error_of(step), values[0], lambda: function_of(case)(**named))
+        else:
+            self.raises_tuple(error_of(step), values, lambda: function_of(case)(**named))
+
+    def test_no_value_raises_anything_that_is_not_named(self):
+        for case in CASES:
+            function = function_of(case)
+            for name in case.names:
+                self.odd_values_for(case, function, name)
+
+    def odd_values_for(self, case, function, name):
+        """Each odd value as one argument: an answer, or an error named for this or a later one."""
+        errors = tuple(error_of(step) for step in case.steps)
+        for odd in odd_values():
+            for args in case.good[:1]:
+                named = {**case.named(args), name: odd}
+                with self.subTest(case.name, name=name, odd=shown(odd)):
+                    told, answer = outcome(lambda: function(**named))
+                    if told == "raised":
+                        self.assertIn(type(answer), errors)
+                        self.assertTrue(self.holds_an_argument(answer.value, named))
+
+    def holds_an_argument(self, value, named):
+        held = [value] + (list(value) if isinstance(value, tuple) else [])
+        return any(one is argument for one in held for argument in named.values())
+
+    def test_whether_any_value_is_tells_true_or_false(self):
+        for case in CASES:
+            if "value" in case.names and case.name.startswith(("is_", "are_")):
+                for args in case.good:
+                    for odd in odd_values():
+                        self.assertIs(type(function_of(case)(**{**case.named(args), "value": odd})), bool, case.name)
+
+
+if __name__ == "__main__":
+    unittest.main()
