@@ -66,28 +66,33 @@ def days_of(net):
     return net[0] + 1
 
 
-def is_there(first, end, day):
-    """Whether what lives from first to end is there on a day."""
-    return first <= day <= end
+def is_there(life, day):
+    """Whether what has a life (first, end) is there on a day."""
+    return life[0] <= day <= life[1]
+
+
+def lives_in(life, low, high):
+    """Whether what has a life (first, end) is there on one at least of the days low to high."""
+    return life[0] <= high and life[1] >= low
 
 
 def points_on(net, day):
     """The ascending list of the numbers of the points that are there on a day."""
     check_net(net)
     check_day(day, net[0])
-    return [number for number, (first, end) in enumerate(net[1]) if is_there(first, end, day)]
+    return [number for number, life in enumerate(net[1]) if is_there(life, day)]
 
 
 def ties_on(net, day):
     """The ascending list of the numbers of the ties that are there on a day."""
     check_net(net)
     check_day(day, net[0])
-    return [number for number, (_, _, first, end) in enumerate(net[2]) if is_there(first, end, day)]
+    return [number for number, tie in enumerate(net[2]) if is_there(tie[2:], day)]
 
 
-def cut_life(first, end, low, high):
+def cut_life(life, low, high):
     """A life cut to the days low to high, the first of which is day 0 then."""
-    return max(first, low) - low, min(end, high) - low
+    return max(life[0], low) - low, min(life[1], high) - low
 
 
 def cut_days(net, first, last):
@@ -95,14 +100,13 @@ def cut_days(net, first, last):
     check_net(net)
     check_days(net, first, last)
     _, points, ties = net
-    kept_points = [k for k, (born, end) in enumerate(points) if born <= last and end >= first]
-    kept_ties = [k for k, (_, _, born, end) in enumerate(ties) if born <= last and end >= first]
-    new_points = [cut_life(points[k][0], points[k][1], first, last) for k in kept_points]
+    kept_points = [k for k, life in enumerate(points) if lives_in(life, first, last)]
+    kept_ties = [k for k, tie in enumerate(ties) if lives_in(tie[2:], first, last)]
+    new_points = [cut_life(points[k], first, last) for k in kept_points]
     new_ties = []
     for k in kept_ties:
-        one, other, born, end = ties[k]
-        life = cut_life(born, end, first, last)
-        new_ties.append((kept_points.index(one), kept_points.index(other), life[0], life[1]))
+        ends = (kept_points.index(ties[k][0]), kept_points.index(ties[k][1]))
+        new_ties.append(ends + cut_life(ties[k][2:], first, last))
     cut = (last - first, tuple(new_points), tuple(new_ties))
     return cut, tuple(kept_points), tuple(kept_ties)
 
@@ -120,7 +124,7 @@ def is_growing(net):
     """Whether all points and ties of the net are there on its last day."""
     check_net(net)
     last, points, ties = net
-    return all([end == last for _, end in points]) and all([tie[3] == last for tie in ties])
+    return all([life[1] == last for life in points]) and all([tie[3] == last for tie in ties])
 
 
 def is_order(many, value):

@@ -8,8 +8,8 @@ from staybars.nets import check_day, check_days, check_net, points_on, ties_on
 def groups_among(points, ties):
     """The list of groups of some numbers of points and some ties."""
     groups = [[point] for point in points]
-    for one, other, _, _ in ties:
-        touched = [group for group in groups if one in group or other in group]
+    for tie in ties:
+        touched = [group for group in groups if tie[0] in group or tie[1] in group]
         joined = sorted([point for group in touched for point in group])
         groups = [group for group in groups if group not in touched] + [joined]
     return sorted(groups)

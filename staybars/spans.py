@@ -4,9 +4,9 @@ from staybars.sums import back_by, led_by, noughts, one_at, plus, same_rows, tim
 
 
 def lead_of(entry):
-    """The place of the first number that isn't 0; behind all places for nought."""
+    """The place of the first number that isn't 0 in an entry that isn't nought."""
     place = 0
-    while place < len(entry) and entry[place] == 0:
+    while entry[place] == 0:
         place += 1
     return place
 

@@ -41,3 +41,57 @@ STAGE_5 = '''
 >>> [is_table(2, 3, 2, T), mirrored_table(2, 2, T), width_of(2, 2, T), lost_part(2, 2, T), entry_to(2, 1, ((0,), (0,)), (1,)), same_table(2)]
 [True, ((1, 1, 0), (1, 1, 1)), 2, ((1, 1, 0),), None, ((1, 0), (0, 1))]
 '''
+
+STAGE_6 = '''
+>>> from staybars.parts import fetched_part, is_part, is_rest_beyond, led_part, lies_within, meet_of, part_holds, part_of, rest_beyond, sum_of, whole_room
+>>> [part_of(3, 3, [(2, 1, 0), (0, 0, 2), (1, 2, 0)]), meet_of(2, 3, ((1, 0, 0), (0, 1, 0)), ((1, 1, 1),)), sum_of(2, 2, ((1, 0),), ((1, 1),))]
+[((1, 2, 0), (0, 0, 1)), (), ((1, 0), (0, 1))]
+>>> [fetched_part(2, 1, ((1,), (1,)), ()), is_rest_beyond(5, 2, ((1, 1),), whole_room(2), [(3, 0)]), is_rest_beyond(5, 2, ((1, 1),), whole_room(2), [(3, 3)])]
+[((1, 1),), True, False]
+>>> [is_part(5, 2, ((2, 0),)), part_holds(5, 2, ((1, 3),), (2, 1)), lies_within(5, 2, ((1, 3),), ((1, 0),)), led_part(5, 1, ((1,), (3,)), ((1, 3),))]
+[False, True, False, ()]
+'''
+
+STAGE_7 = '''
+>>> from staybars.chains import fetched_chain, is_chain, is_one_base, led_chain, meets_of, one_base, shares_of, step_of
+>>> F = (((1, 0),), ((1, 0), (0, 1)))
+>>> G = (((1, 1),), ((1, 0), (0, 1)))
+>>> [is_chain(2, 2, F), is_chain(2, 2, F[1:]), is_chain(2, 2, F[:1]), step_of(2, 2, G, (0, 1)), meets_of(2, 2, F, G), shares_of(2, 2, F, G)]
+[True, True, False, 1, [[0, 1], [1, 2]], [[0, 1], [1, 0]]]
+>>> [is_one_base(2, 2, F, G, ((1, 0), (1, 1))), led_chain(2, 2, ((1, 1), (1, 1)), F), fetched_chain(3, 1, ((1,), (0,)), (((1,),),))]
+[True, (((1, 1),), ((1, 0), (0, 1))), (((0, 1),), ((1, 0), (0, 1)))]
+'''
+
+STAGE_8 = '''
+>>> from staybars.lines import changed_line, cut_line, lines_beside, is_line, mirrored_line, places_of, put_together, signs_of
+>>> L = (5, (1, 2, 1), ((">", ((1, 0),)), ("<", ((1, 1),))))
+>>> [is_line(L), places_of(L), signs_of(L), is_line((5, (1,), ())), is_line((4, (1,), ()))]
+[True, 3, ('>', '<'), True, False]
+>>> [cut_line(L, 0, 1), mirrored_line(L)]
+[(5, (1, 2), (('>', ((1, 0),)),)), (5, (1, 2, 1), (('>', ((1, 1),)), ('<', ((1, 0),))))]
+>>> [changed_line(L, (((2,),), ((1, 0), (0, 1)), ((1,),))), put_together(cut_line(L, 0, 1), cut_line(L, 1, 2)) == L]
+[(5, (1, 2, 1), (('>', ((2, 0),)), ('<', ((1, 1),)))), True]
+'''
+
+STAGE_9 = '''
+>>> from staybars.bars import bars_covering, bars_of, both_heaps, cut_heap, heap_of, is_heap, mirrored_heap, plain_line, widths_of
+>>> H = ((0, 1, 1), (1, 2, 2))
+>>> [is_heap(3, H), is_heap(2, H), bars_of(3, H), heap_of(3, [(1, 2), (0, 1), (1, 2)]) == H]
+[True, False, [(0, 1), (1, 2), (1, 2)], True]
+>>> [widths_of(3, H), bars_covering(3, H, 1, 2), cut_heap(3, H, 1, 2), mirrored_heap(3, H), both_heaps(3, H, ((0, 0, 1),))]
+[(1, 3, 2), 2, ((0, 0, 1), (0, 1, 2)), ((0, 1, 2), (1, 2, 1)), ((0, 0, 1), (0, 1, 1), (1, 2, 2))]
+>>> plain_line(2, ((0, 1, 1), (1, 2, 1)), (">", "<"))
+(2, (1, 2, 1), (('>', ((1, 0),)), ('<', ((0, 1),))))
+'''
+
+STAGE_10 = '''
+>>> from staybars.looks import are_ranks, heap_of_ranks, looks_enough, rank_of, ranks_of, tells_apart
+>>> [rank_of(L, 0, 1), rank_of(L, 1, 2), rank_of(L, 0, 2), rank_of(L, 1, 1)]
+[1, 1, 0, 2]
+>>> ranks_of(2, ((0, 0, 1), (0, 1, 2)))
+{(0, 0): 3, (0, 1): 2, (1, 1): 2}
+>>> [heap_of_ranks(2, {(0, 0): 3, (0, 1): 2, (1, 1): 2}), are_ranks(2, {(0, 0): 1, (0, 1): 2, (1, 1): 2})]
+[((0, 0, 1), (0, 1, 2)), False]
+>>> [looks_enough(2, [(0, 0), (0, 1), (1, 1)]), tells_apart(2, [(0, 0), (1, 1)], ((0, 1, 1),), ((0, 0, 1), (1, 1, 1)))]
+[None, False]
+'''

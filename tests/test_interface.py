@@ -110,8 +110,8 @@ class TestInterface(Checks):
                         self.expect(case, steps[0], named)
 
     def expect(self, case, step, named):
-        values = [named[name] for name in step.told]
-        if len(step.told) == 1:
+        values = step.values(named)
+        if len(values) == 1:
             self.raises(error_of(step), values[0], lambda: function_of(case)(**named))
         else:
             self.raises_tuple(error_of(step), values, lambda: function_of(case)(**named))
@@ -136,7 +136,19 @@ class TestInterface(Checks):
 
     def holds_an_argument(self, value, named):
         held = [value] + (list(value) if isinstance(value, tuple) else [])
-        return any(one is argument for one in held for argument in named.values())
+        arguments = list(named.values())
+        for argument in named.values():
+            arguments.extend(argument if isinstance(argument, (list, tuple)) else [])
+        return any(one is argument for one in held for argument in arguments)
+
+    def test_other_wrong_arguments_raise_whatever_the_value_is(self):
+        for case in CASES:
+            if "value" in case.names:
+                for step in case.steps:
+                    for odd in odd_values():
+                        wrong = dict(zip(step.names, step.wrong[0]))
+                        with self.subTest(case.name, error=step.error, odd=shown(odd)):
+                            self.expect(case, step, {**case.named(case.good[0]), "value": odd, **wrong})
 
     def test_whether_any_value_is_tells_true_or_false(self):
         for case in CASES:
