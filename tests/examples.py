@@ -95,3 +95,52 @@ STAGE_10 = '''
 >>> [looks_enough(2, [(0, 0), (0, 1), (1, 1)]), tells_apart(2, [(0, 0), (1, 1)], ((0, 1, 1),), ((0, 0, 1), (1, 1, 1)))]
 [None, False]
 '''
+
+STAGE_11 = '''
+>>> from staybars.texts import kind_of_text, read_heap, read_line, read_net, write_heap, write_line, write_net
+>>> [write_line(L), read_line("line 5 1; > 2 10; < 1 11") == L, write_line((2, (0, 1, 0), ((">", ()), ("<", ()))))]
+['line 5 1; > 2 10; < 1 11', True, 'line 2 0; > 1; < 0']
+>>> [write_line((3, (0, 2), (("<", ((), ())),))), write_heap(3, ((0, 1, 2), (1, 2, 1))), read_heap(2, "heap"), kind_of_text("net of fish")]
+['line 3 0; < 2 - -', 'heap; 0 1 2; 1 2 1', (), 'net']
+>>> [write_net((3, ((0, 3), (1, 2)), ((0, 1, 1, 2),))), read_net("net 0; point 0 0")]
+['net 3; point 0 3; point 1 2; tie 0 1 1 2', (0, ((0, 0),), ())]
+'''
+
+STAGE_12 = '''
+>>> from staybars.flags import birthday_of, births_of, deathday_of, deaths_of, ended_bars, flags_of, heap_of_line, left_flag, right_flag
+>>> UP = (5, (1, 2), ((">", ((1, 0),)),))
+>>> DOWN = (5, (1, 2), (("<", ((0,), (1,))),))
+>>> [left_flag(UP), left_flag(DOWN)]
+[((0, ((1, 0),)), (1, ((1, 0), (0, 1)))), ((1, ((1, 0),)), (0, ((1, 0), (0, 1))))]
+>>> [birthday_of(UP, (3, 0)), birthday_of(UP, (3, 1)), birthday_of(DOWN, (3, 0)), birthday_of(DOWN, (3, 1)), births_of(UP), births_of(DOWN)]
+[0, 1, 1, 0, {0: 1, 1: 1}, {1: 1, 0: 1}]
+>>> [heap_of_line(L), ended_bars(L), right_flag(L), deaths_of(L), deathday_of(L, (4,))]
+[((0, 1, 1), (1, 2, 1)), ((0, 1, 1),), ((1, ((1,),)),), {1: 1}, 1]
+'''
+
+STAGE_13 = '''
+>>> from staybars.cuts import bars_ahead, bars_over, bars_past, meets_at
+>>> [meets_at(L, 1), bars_over(L, 1), bars_ahead(L, 2), bars_past(L, 0)]
+[{(0, 2): 0, (0, 1): 1, (1, 2): 1, (1, 1): 2}, ((0, 1, 1), (1, 2, 1)), ((0, 1, 1),), ((1, 2, 1),)]
+'''
+
+STAGE_14 = '''
+>>> from staybars.halves import are_exchangeable, is_way, parting_half, tells_halves, unlike_entry, way_between
+>>> [are_exchangeable(UP, DOWN), unlike_entry(UP, DOWN) is None, parting_half(UP, UP), way_between(UP, (5, (1, 2), ((">", ((3, 0),)),)))]
+[False, False, None, (((2,),), ((1, 0), (0, 1)))]
+>>> X = (5, (2, 1), (("<", ((1, 1),)),))
+>>> [tells_halves(UP, DOWN, X), tells_halves(UP, DOWN, (5, (2,), ())), is_way(UP, UP, (((1,),), ((1, 0), (0, 1)))), is_way(UP, UP, (((2,),), ((1, 0), (0, 1))))]
+[True, False, True, False]
+'''
+
+STAGE_16 = '''
+>>> from staybars.papers import added_row, beside_papers, bases_of_paper, cut_paper, heap_of_paper, is_paper, mirrored_paper, paper_of
+>>> P, Q = ((1, 2, ((1, 1), (1,))), (0, 1, ((1,), (1, 0)))), ((0, 1, ((1,), (1, 0))), (1, 1, ((0, 1),)))
+>>> [is_paper(L, P), is_paper(L, ((1, 2, ((2, 1), (1,))), (0, 1, ((1,), (1, 0))))), is_paper(L, paper_of(L)), heap_of_paper(L, P)]
+[True, False, True, ((0, 1, 1), (1, 2, 1))]
+>>> [bases_of_paper(L, P), cut_paper(L, P, 0, 0), mirrored_paper(L, P)]
+[(((1,),), ((1, 0), (1, 1)), ((1,),)), ((0, 0, ((1,),)),), ((0, 1, ((1,), (1, 1))), (1, 2, ((1, 0), (1,))))]
+>>> U = (5, (1, 2), ((">", ((1, 0),)),))
+>>> [added_row(U, Q, 1, 0, 3), added_row(U, Q, 0, 1, 3), beside_papers((5, (1,), ()), ((0, 0, ((2,),)),), (5, (1,), ()), ((0, 0, ((1,),)),))]
+[((0, 1, ((1,), (1, 0))), (1, 1, ((3, 1),))), None, ((0, 0, ((2, 0),)), (0, 0, ((0, 1),)))]
+'''
