@@ -51,15 +51,9 @@ def is_paper(line, value):
 
 
 def check_paper(line, value):
-    """Raise BadPaper for any value that is no right paper of the line."""
+    """Raise BadLine for what is no line, then BadPaper for what is no right paper of it."""
     if not is_paper(line, value):
         raise BadPaper(value)
-
-
-def check_line_paper(line, value):
-    """Raise BadLine for the line, then BadPaper for the paper."""
-    check_line(line)
-    check_paper(line, value)
 
 
 def paper_of(line):
@@ -70,13 +64,13 @@ def paper_of(line):
 
 def heap_of_paper(line, value):
     """The heap of the stretches of the paper's rows."""
-    check_line_paper(line, value)
+    check_paper(line, value)
     return piled([(a, b, 1) for a, b, _ in value])
 
 
 def bases_of_paper(line, value):
     """The tables by which changed_line tells the line as the plain line of its heap."""
-    check_line_paper(line, value)
+    check_paper(line, value)
     rows = in_sequence(value)
     return tuple([entries_over(rows, place) for place in range(len(line[1]))])
 
@@ -90,14 +84,14 @@ def cut_row(row, first, last):
 
 def cut_paper(line, value, first, last):
     """The paper of the places from first to last alone."""
-    check_line_paper(line, value)
+    check_paper(line, value)
     check_line_stretch(line, first, last)
     return tuple([cut_row(row, first, last) for row in value if row[0] <= last and row[1] >= first])
 
 
 def mirrored_paper(line, value):
     """The paper of the line with its places in the other sequence."""
-    check_line_paper(line, value)
+    check_paper(line, value)
     last = len(line[2])
     return tuple([(last - b, last - a, entries[::-1]) for a, b, entries in value])
 
@@ -131,7 +125,7 @@ def are_two_numbers(many, i, j):
 
 def added_row(line, value, i, j, number):
     """The paper with number times row j added to row i where both stand, None if it is no right one."""
-    check_line_paper(line, value)
+    check_paper(line, value)
     if not are_two_numbers(len(value), i, j):
         raise BadRows((i, j))
     if not is_from_to(number, 0, line[0] - 1):

@@ -133,6 +133,17 @@ STAGE_14 = '''
 [True, False, True, False]
 '''
 
+STAGE_15 = '''
+>>> from staybars.joints import all_joinings, heap_joined, is_joining, joining_at, line_with, map_for
+>>> ONE = (5, (1,), ())
+>>> [joining_at(L, 0), joining_at(L, 1), line_with(ONE, ONE, ">", ((2,),)), all_joinings(ONE, ONE)]
+[((0, 1, 1),), ((1, 2, 1),), (5, (1, 1), (('>', ((2,),)),)), [(), ((0, 1, 1),)]]
+>>> [heap_joined(UP, ONE, ()), heap_joined(UP, ONE, ((0, 2, 1),)), is_joining(UP, ONE, ((0, 2, 1), (1, 2, 1)))]
+[((0, 1, 1), (1, 1, 1), (2, 2, 1)), ((0, 2, 1), (1, 1, 1)), False]
+>>> map_for(UP, ONE, ">", ())
+((0,), (0,))
+'''
+
 STAGE_16 = '''
 >>> from staybars.papers import added_row, beside_papers, bases_of_paper, cut_paper, heap_of_paper, is_paper, mirrored_paper, paper_of
 >>> P, Q = ((1, 2, ((1, 1), (1,))), (0, 1, ((1,), (1, 0)))), ((0, 1, ((1,), (1, 0))), (1, 1, ((0, 1),)))
@@ -143,4 +154,66 @@ STAGE_16 = '''
 >>> U = (5, (1, 2), ((">", ((1, 0),)),))
 >>> [added_row(U, Q, 1, 0, 3), added_row(U, Q, 0, 1, 3), beside_papers((5, (1,), ()), ((0, 0, ((2,),)),), (5, (1,), ()), ((0, 0, ((1,),)),))]
 [((0, 1, ((1,), (1, 0))), (1, 1, ((3, 1),))), None, ((0, 0, ((2, 0),)), (0, 0, ((0, 1),)))]
+'''
+
+STAGE_17 = '''
+>>> from staybars.crossings import all_crossings, bars_cross, behind_crossing, crossing_width, is_crossing
+>>> from staybars.crossings import is_one_to_one, is_onto, same_crossing, sum_crossing
+>>> one, other = (2, (1, 1), ((">", ((1,),)),)), (2, (1, 0), ((">", ((),)),))
+>>> [is_crossing(one, other, (((1,),), ((),))), is_crossing(other, one, (((1,),), ()))]
+[True, False]
+>>> [all_crossings(one, other), same_crossing(other)]
+[[(((1,),), ((),))], (((1,),), ())]
+>>> [is_one_to_one(one, other, (((1,),), ((),))), is_onto(one, other, (((1,),), ((),)))]
+[False, True]
+>>> [bars_cross((">",), (0, 1), (0, 0)), bars_cross((">",), (0, 0), (0, 1)), bars_cross(("<",), (0, 0), (0, 1))]
+[True, False, True]
+>>> [bars_cross((">",), (1, 1), (0, 1)), bars_cross((">",), (0, 1), (1, 1)), bars_cross((), (0, 0), (0, 0))]
+[True, False, True]
+>>> crossing_width((">",), ((0, 1, 2),), ((0, 0, 3), (1, 1, 1)))
+6
+>>> behind_crossing(one, one, other, (((1,),), ((1,),)), (((1,),), ((),)))
+(((1,),), ((),))
+>>> sum_crossing(one, one, (((1,),), ((1,),)), (((1,),), ((1,),)), 3)
+(((0,),), ((0,),))
+'''
+
+STAGE_18 = '''
+>>> from staybars.alike import alike_crossing, back_crossing, parting_stretch
+>>> from staybars.crossings import is_crossing
+>>> one, two, three = (3, (1, 1), ((">", ((1,),)),)), (3, (1, 1), ((">", ((2,),)),)), (3, (1, 1), ((">", ((0,),)),))
+>>> way = alike_crossing(one, two)
+>>> back = back_crossing(one, two, way)
+>>> [is_crossing(one, two, way), is_crossing(two, one, back), alike_crossing(one, three)]
+[True, True, None]
+>>> [back_crossing(one, two, (((1,),), ((2,),))), back_crossing(one, two, (((0,),), ((0,),)))]
+[(((1,),), ((2,),)), None]
+>>> [parting_stretch(one, two), parting_stretch(one, three)]
+[None, (0, 1)]
+'''
+
+STAGE_19 = '''
+>>> from staybars.shadows import led_line, lost_line, rest_line
+>>> one, other = (2, (1, 1), ((">", ((1,),)),)), (2, (1, 0), ((">", ((),)),))
+>>> led_line(one, other, (((1,),), ((),)))
+((2, (1, 0), (('>', ((),)),)), (((1,),), ((),)), (((1,),), ()))
+>>> [lost_line(one, other, (((1,),), ((),))), rest_line(one, other, (((1,),), ((),)))]
+[((2, (0, 1), (('>', ()),)), ((), ((1,),))), ((2, (0, 0), (('>', ()),)), (((),), ()))]
+>>> small, room = (3, (1,), ()), (3, (2,), ())
+>>> [led_line(small, room, (((1, 2),),)), rest_line(small, room, (((1, 2),),))]
+[((3, (1,), ()), (((1,),),), (((1, 2),),)), ((3, (1,), ()), (((1,), (1,)),))]
+>>> near, far = (5, (1, 1), ((">", ((1,),)),)), (5, (2, 2), ((">", ((1, 0), (1, 1))),))
+>>> rest_line(near, far, (((0, 1),), ((1, 1),)))
+((5, (1, 1), (('>', ((4,),)),)), (((1,), (0,)), ((4,), (1,))))
+'''
+
+STAGE_20 = '''
+>>> from staybars.lies import fewer_births, into_crossing, more_ends, onto_crossing
+>>> long, late, brief = (2, (1, 1), ((">", ((1,),)),)), (2, (0, 1), ((">", ()),)), (2, (1, 0), ((">", ((),)),))
+>>> [into_crossing(late, long), more_ends(late, long), into_crossing(long, late), more_ends(long, late)]
+[((), ((1,),)), None, None, (1, 0)]
+>>> [onto_crossing(late, long), fewer_births(late, long), more_ends(brief, long)]
+[None, (0, 0), (0, 0)]
+>>> [onto_crossing(long, brief), fewer_births(long, brief)]
+[(((1,),), ((),)), None]
 '''
