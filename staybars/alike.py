@@ -3,11 +3,10 @@
 from staybars.bars import many_over
 from staybars.crossings import check_lines_crossing
 from staybars.flags import heap_of_line
-from staybars.lines import is_base_table
 from staybars.looks import stretches_of
 from staybars.rows import in_sequence, rows_of_line, tables_by_rows
 from staybars.spans import back_rows
-from staybars.ways import check_fellows
+from staybars.ways import check_fellows, have_backs
 
 
 def alike_crossing(one, other):
@@ -21,10 +20,9 @@ def alike_crossing(one, other):
 def back_crossing(one, other, crossing):
     """The back of a crossing from one to other, None if it has none."""
     check_lines_crossing(one, other, crossing)
-    p = one[0]
-    if one[1] != other[1] or not all([is_base_table(p, len(table), table) for table in crossing]):
+    if not have_backs(one, other, crossing):
         return None
-    return tuple([back_rows(p, table) for table in crossing])
+    return tuple([back_rows(one[0], table) for table in crossing])
 
 
 def parting_stretch(one, other):

@@ -4,11 +4,11 @@ from staybars.chains import one_base
 from staybars.cuts import parts_of_steps
 from staybars.errors import BadPair
 from staybars.flags import day_of, ended_bars, heap_of_line, left_flag
-from staybars.lines import MOST_PLACES, check_line, check_two_lines, is_base_table, put_together, signs_in
+from staybars.lines import MOST_PLACES, check_line, check_two_lines, put_together, signs_in
 from staybars.rows import in_sequence, row_less, rows_of_line, tables_by_rows
 from staybars.spans import entry_led_to
 from staybars.sums import noughts, plus, same_rows
-from staybars.ways import goes_along
+from staybars.ways import goes_along, have_backs
 
 
 def check_half_pair(one, other):
@@ -100,8 +100,6 @@ def way_between(one, other):
 def is_way(one, other, value):
     """Whether any value is such a crossing as way_between tells."""
     check_like_halves(one, other)
-    if not goes_along(one, other, value):
-        return False
-    if not all([is_base_table(one[0], width, table) for width, table in zip(one[1], value)]):
+    if not goes_along(one, other, value) or not have_backs(one, other, value):
         return False
     return value[-1] == same_rows(one[1][-1])

@@ -2,7 +2,7 @@
 
 from staybars.errors import BadPair
 from staybars.kinds import is_tuple_long
-from staybars.lines import along, check_two_lines, signs_in
+from staybars.lines import along, check_two_lines, is_base_table, signs_in
 from staybars.sums import led_behind
 from staybars.tables import is_table
 
@@ -45,3 +45,11 @@ def goes_along(one, other, value):
     if not are_tables_between(one, other, value):
         return False
     return all([goes_along_at(one, other, value, k) for k in range(len(one[2]))])
+
+
+def have_backs(one, other, tables):
+    """Whether each of some tables, from one's rooms to other's, has a back."""
+    # A table from a room 0 wide is (), to whatever width it leads: only the rooms tell where that is.
+    if one[1] != other[1]:
+        return False
+    return all([is_base_table(one[0], width, table) for width, table in zip(one[1], tables)])
