@@ -2,17 +2,14 @@
 
 from staybars.bars import piled
 from staybars.chains import meet_widths, share_at
-from staybars.errors import BadPlace
 from staybars.flags import flags_of, heap_of_line, right_flag
-from staybars.kinds import is_from_to
-from staybars.lines import check_line, cut_line
+from staybars.lines import check_line, check_line_place, cut_line
 
 
 def check_place(line, k):
     """Raise BadLine for what is no line, then BadPlace for what is no place of it."""
     check_line(line)
-    if not is_from_to(k, 0, len(line[2])):
-        raise BadPlace(k)
+    check_line_place(line, k)
 
 
 def days_of_steps(flag):

@@ -2,7 +2,7 @@
 
 from staybars.errors import NotForth
 from staybars.flags import heap_of_line
-from staybars.lines import BACK, signs_in
+from staybars.lines import leads_forth
 from staybars.rows import rows_of_line, tables_by_rows
 from staybars.ways import check_fellows
 
@@ -10,7 +10,7 @@ from staybars.ways import check_fellows
 def check_forth(one, other):
     """Raise BadLine for the one, for the other, BadPair, then NotForth for lines with a sign back."""
     check_fellows(one, other)
-    if BACK in signs_in(one):
+    if not leads_forth(one):
         raise NotForth(one)
 
 

@@ -1,8 +1,8 @@
 """Lines of rooms whose maps lead forward or back."""
 
 from staybars.entries import GREATEST_WIDTH, is_prime, is_width
-from staybars.errors import BadBases, BadLine, BadPair, BadStretch
-from staybars.kinds import is_stretch_of, is_tuple_long
+from staybars.errors import BadBases, BadLine, BadPair, BadPlace, BadStretch
+from staybars.kinds import is_from_to, is_stretch_of, is_tuple_long
 from staybars.spans import back_rows
 from staybars.sums import led_behind, noughts
 from staybars.tables import is_table
@@ -82,6 +82,12 @@ def check_line_stretch(line, first, last):
         raise BadStretch((first, last))
 
 
+def check_line_place(line, k):
+    """Raise BadPlace for any value that is no place of what is known to be a line."""
+    if not is_from_to(k, 0, len(line[2])):
+        raise BadPlace(k)
+
+
 def places_of(line):
     """The number of the line's places."""
     check_line(line)
@@ -97,6 +103,11 @@ def signs_of(line):
     """The tuple of the line's signs."""
     check_line(line)
     return signs_in(line)
+
+
+def leads_forth(line):
+    """Whether all signs of what is known to be a line are the forth one."""
+    return BACK not in signs_in(line)
 
 
 def cut_line(line, first, last):

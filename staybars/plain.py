@@ -21,22 +21,32 @@ def rings_among(points, ties):
 
 
 def there_on(net, day):
-    """The numbers of the points, and the ties, that are there on a day."""
-    return points_on(net, day), [net[2][number] for number in ties_on(net, day)]
+    """The numbers of the points and of the ties that are there on a day."""
+    return points_on(net, day), ties_on(net, day)
 
 
 def there_over(net, day):
-    """The numbers of the points, and the ties, that are there on a day or on the next one."""
+    """The numbers of the points and of the ties that are there on a day or on the next one."""
     points = sorted(set(points_on(net, day)) | set(points_on(net, day + 1)))
-    ties = sorted(set(ties_on(net, day)) | set(ties_on(net, day + 1)))
-    return points, [net[2][number] for number in ties]
+    return points, sorted(set(ties_on(net, day)) | set(ties_on(net, day + 1)))
 
 
 def there_both(net, day):
-    """The numbers of the points, and the ties, that are there on a day and on the next one."""
+    """The numbers of the points and of the ties that are there on a day and on the next one."""
     points = sorted(set(points_on(net, day)) & set(points_on(net, day + 1)))
-    ties = sorted(set(ties_on(net, day)) & set(ties_on(net, day + 1)))
-    return points, [net[2][number] for number in ties]
+    return points, sorted(set(ties_on(net, day)) & set(ties_on(net, day + 1)))
+
+
+def groups_of_there(net, there):
+    """The list of groups of the points and ties of a net with some numbers."""
+    points, ties = there
+    return groups_among(points, [net[2][number] for number in ties])
+
+
+def rings_of_there(net, there):
+    """How many rings the points and ties of a net with some numbers have."""
+    points, ties = there
+    return rings_among(points, [net[2][number] for number in ties])
 
 
 def check_two_days(net, day):
@@ -49,44 +59,38 @@ def groups_on(net, day):
     """The groups of what is there on a day."""
     check_net(net)
     check_day(day, net[0])
-    points, ties = there_on(net, day)
-    return groups_among(points, ties)
+    return groups_of_there(net, there_on(net, day))
 
 
 def rings_on(net, day):
     """How many rings there are in what is there on a day."""
     check_net(net)
     check_day(day, net[0])
-    points, ties = there_on(net, day)
-    return rings_among(points, ties)
+    return rings_of_there(net, there_on(net, day))
 
 
 def groups_over(net, day):
     """The groups of what is there on a day or on the next one."""
     check_two_days(net, day)
-    points, ties = there_over(net, day)
-    return groups_among(points, ties)
+    return groups_of_there(net, there_over(net, day))
 
 
 def rings_over(net, day):
     """How many rings there are in what is there on a day or on the next one."""
     check_two_days(net, day)
-    points, ties = there_over(net, day)
-    return rings_among(points, ties)
+    return rings_of_there(net, there_over(net, day))
 
 
 def groups_both(net, day):
     """The groups of what is there on a day and on the next one."""
     check_two_days(net, day)
-    points, ties = there_both(net, day)
-    return groups_among(points, ties)
+    return groups_of_there(net, there_both(net, day))
 
 
 def rings_both(net, day):
     """How many rings there are in what is there on a day and on the next one."""
     check_two_days(net, day)
-    points, ties = there_both(net, day)
-    return rings_among(points, ties)
+    return rings_of_there(net, there_both(net, day))
 
 
 def are_in_one(groups, one, other):

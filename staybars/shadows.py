@@ -2,18 +2,13 @@
 
 from staybars.crossings import check_lines_crossing
 from staybars.lines import along
-from staybars.spans import base_of, fetched_base, lead_of, rest_off
+from staybars.spans import base_of, fetched_base, lead_of, numbers_in, rest_off
 from staybars.sums import led_by, one_at
 
 
 def led_bases(p, crossing):
     """The bases of the parts of all to which a crossing leads, one for each place."""
     return tuple([base_of(p, table) for table in crossing])
-
-
-def numbers_in(base, entry):
-    """The numbers by which the entries of a base are taken to come to an entry that its part holds."""
-    return tuple([entry[lead_of(row)] for row in base])
 
 
 def spots_beyond(base, width):

@@ -19,6 +19,11 @@ def rest_off(p, base, entry):
     return rest
 
 
+def numbers_in(base, entry):
+    """The numbers by which the entries of a base are taken to come to an entry that its part holds."""
+    return tuple([entry[lead_of(row)] for row in base])
+
+
 def is_held(p, base, entry):
     """Whether the part of a base holds an entry."""
     return not any(rest_off(p, base, entry))

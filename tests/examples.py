@@ -217,3 +217,53 @@ STAGE_20 = '''
 >>> [onto_crossing(long, brief), fewer_births(long, brief)]
 [(((1,),), ((),)), None]
 '''
+
+STAGE_21 = '''
+>>> from staybars.shifts import goes_on, is_forth, is_long, length_of, shifted_line, steps_on
+>>> S = (2, (1, 1, 1, 0, 0), ((">", ((1,),)), (">", ((1,),)), (">", ((),)), (">", ())))
+>>> [is_forth(S), steps_on(S, 0, 2), steps_on(S, 1, 5), shifted_line(S, 2)]
+[True, ((1,),), ((),), (2, (1, 0, 0, 0, 0), (('>', ((),)), ('>', ()), ('>', ()), ('>', ())))]
+>>> [goes_on(5, (1, 4)), length_of(5, (1, 3)), length_of(5, (1, 4)), is_long(5, (1, 3), 1), is_long(5, (1, 3), 2)]
+[True, 3, None, True, False]
+'''
+
+STAGE_22 = '''
+>>> from staybars.matchings import bars_fit, is_lot, is_matching, least_e, lot_of, matching_of
+>>> A, B = ((0, 2, 1),), ((1, 3, 1),)
+>>> [bars_fit(5, (0, 2), (1, 3), 1), bars_fit(5, (0, 4), (1, 3), 1), matching_of(5, A, B, 1), matching_of(5, A, B, 0)]
+[True, False, (((0, 2), (1, 3), 1),), None]
+>>> [is_matching(5, A, B, 2, ()), is_lot(5, A, B, 0, ("other", ((1, 3),))), lot_of(5, A, B, 1)]
+[True, True, None]
+>>> [least_e(5, A, B), least_e(5, A, ()), least_e(5, ((0, 4, 1),), ())]
+[1, 2, None]
+'''
+
+STAGE_23 = '''
+>>> from staybars.thereback import are_within, is_there_and_back, least_between, led_matching, tables_for, there_and_back
+>>> T = (2, (0, 1, 1, 1, 0), ((">", ()), (">", ((1,),)), (">", ((1,),)), (">", ((),))))
+>>> W = tables_for(S, T, 1, (((0, 2), (1, 3), 1),))
+>>> W
+((((1,),), ((1,),), ((1,),), (), ()), ((), ((1,),), ((),), ((),), ()))
+>>> [is_there_and_back(S, T, 1, W), led_matching(S, T, 1, W), least_between(S, T), are_within(S, T, 0), there_and_back(S, T, 0)]
+[True, (((0, 2), (1, 3), 1),), 1, False, None]
+'''
+
+STAGE_24 = '''
+>>> from staybars.netlines import groups_line, ring_base, rings_line
+>>> groups_line((1, ((0, 1), (0, 1)), ((0, 1, 0, 0),)), "unions", 2)
+(2, (1, 1, 2), (('>', ((1,),)), ('<', ((1,), (1,)))))
+>>> groups_line((1, ((0, 1), (0, 1)), ((0, 1, 0, 0),)), "meets", 2)
+(2, (1, 2, 2), (('<', ((1,), (1,))), ('>', ((1, 0), (0, 1)))))
+>>> [ring_base(trip, "unions", 1, 5), rings_line(trip, "unions", 5)[1]]
+[((1, 4, 1),), (0, 1, 1, 1, 0, 0, 0)]
+'''
+
+STAGE_25 = '''
+>>> from staybars.tides import net_heaps, plain_ends, turned_over
+>>> [net_heaps(trip, "unions"), net_heaps(trip, "meets")]
+[(((0, 6, 1), (6, 6, 1)), ((1, 3, 1),)), (((0, 6, 1), (5, 6, 1)), ((2, 2, 1),))]
+>>> turned_over("unions", 4, ((0, 6, 1), (6, 6, 1)), ((1, 1, 2), (1, 3, 1)))
+(((0, 6, 1), (1, 1, 2), (5, 6, 1)), ((2, 2, 1),))
+>>> plain_ends(trip)
+[(0, 0, 0, 0), (0, 0, 0, 0), (0, 0, 0, 1)]
+'''

@@ -9,7 +9,7 @@ from tests import examples
 class TestExamples(unittest.TestCase):
     def test_each_stage(self):
         names = {}
-        for stage in range(2, 31):
+        for stage in range(2, 32):
             text = getattr(examples, f"STAGE_{stage}", None)
             if text is not None:
                 with self.subTest(stage):

@@ -7,10 +7,10 @@ import itertools
 import unittest
 
 import staybars.errors
-from tests import interface, interface_crossings, interface_papers
+from tests import interface, interface_crossings, interface_forth, interface_papers
 from tests.helpers import Checks, odd_values, outcome, shown
 
-CASES = interface.CASES + interface_papers.CASES + interface_crossings.CASES
+CASES = interface.CASES + interface_papers.CASES + interface_crossings.CASES + interface_forth.CASES
 # The errors whose value is no argument, but a number of their own.
 NUMBERED = ("BadText", "TooMany")
 

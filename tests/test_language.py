@@ -11,7 +11,7 @@ FILES = sorted(PACKAGE.glob("*.py"))
 BUILT_IN = set(dir(builtins)) - {"_"}
 BUILTINS = """len range enumerate zip min max sum abs sorted reversed int str bool list tuple dict set isinstance ord repr
 any all divmod ValueError""".split()
-METHODS = "append count extend find get index items join keys pop values sort split startswith insert remove __init__".split()
+METHODS = "append count extend setdefault find get index items join keys pop values sort split startswith insert remove __init__".split()
 BARRED = """register mro elements open input law eval exec exit globals locals vars dir id type typing enum hash next iter
 compile format copyright credits help license quit""".split()
 
