@@ -72,6 +72,18 @@ def piled(piles):
     return tuple([(a, b, counts[(a, b)]) for a, b in sorted(counts)])
 
 
+def piles_more(one, other):
+    """The heap of the bars of the one heap that it has oftener than the other, as often as it has them more."""
+    held = {(a, b): often for a, b, often in other}
+    more = [(a, b, often - held.get((a, b), 0)) for a, b, often in one]
+    return tuple([pile for pile in more if pile[2] > 0])
+
+
+def turnover(elder, later):
+    """The heaps of the bars that went and of those that came from an elder heap to a later one."""
+    return piles_more(elder, later), piles_more(later, elder)
+
+
 def bars_of(places, heap):
     """The list of the heap's bars, each stretch so often as it stands, ascending."""
     check_places_heap(places, heap)

@@ -22,3 +22,14 @@ def is_stretch_of(places, value):
         return False
     a, b = value
     return is_from_to(b, 0, places - 1) and is_from_to(a, 0, b)
+
+
+def is_like(wanted, value):
+    """Whether any value is equal to lists and tuples of integers, kind by kind."""
+    if isinstance(wanted, int):
+        return is_whole(value) and value == wanted
+    if isinstance(wanted, list) != isinstance(value, list) or isinstance(wanted, tuple) != isinstance(value, tuple):
+        return False
+    if len(wanted) != len(value):
+        return False
+    return all([is_like(one, other) for one, other in zip(wanted, value)])

@@ -1,4 +1,11 @@
-"""The examples of the document, stage by stage, as they stand there."""
+"""The examples of the document, stage by stage, as they stand there; STAGE_1 is its first look."""
+
+STAGE_1 = '''
+>>> from staybars.tides import net_heaps
+>>> trip = (3, ((0, 3), (0, 3), (1, 2)), ((0, 1, 0, 1), (0, 2, 1, 2), (1, 2, 1, 2)))
+>>> net_heaps(trip, "unions")
+(((0, 6, 1), (6, 6, 1)), ((1, 3, 1),))
+'''
 
 STAGE_2 = '''
 >>> from staybars.nets import cut_days, points_on, renumbered_net, ties_on, turned_net
@@ -266,4 +273,72 @@ STAGE_25 = '''
 (((0, 6, 1), (1, 1, 2), (5, 6, 1)), ((2, 2, 1),))
 >>> plain_ends(trip)
 [(0, 0, 0, 0), (0, 0, 0, 0), (0, 0, 0, 1)]
+'''
+
+STAGE_26 = '''
+>>> from staybars.grown import days_line, elder_names, name_on, shift_of, tables_of_nets
+>>> grow = (2, ((0, 2), (0, 2), (1, 2)), ((0, 1, 1, 2), (1, 2, 2, 2)))
+>>> [days_line(grow, "groups", 2), elder_names(grow)]
+[(2, (2, 2, 1), (('>', ((1, 0), (1, 0))), ('>', ((1,), (1,))))), [(0, 0, 2), (1, 0, 0), (2, 1, 1)]]
+>>> [name_on(grow, 0, 2), name_on(grow, 1, 1), name_on(grow, 2, 2)]
+[None, 0, 0]
+>>> late = (2, ((0, 2), (1, 2), (1, 2)), ((0, 1, 2, 2), (1, 2, 2, 2)))
+>>> [shift_of(grow, late), tables_of_nets(grow, late, 1, "groups", 2)]
+[1, ((((1, 0, 0), (0, 1, 0)), ((1,), (1,)), ((1,),)), (((1, 0),), ((1,), (1,), (1,)), ((1,),)))]
+'''
+
+STAGE_27 = '''
+>>> from staybars.counts import count_parts, count_squares, group_of, heaps_with, lines_with, maps_with
+>>> [count_squares(2, 2), count_squares(3, 2), count_parts(2, 3, 1), count_parts(2, 2, 3)]
+[6, 48, 7, 0]
+>>> [group_of(2, ((0, 0, 1), (0, 1, 1)), (">",)), lines_with(2, ((0, 0, 1), (0, 1, 1)), (">",)), heaps_with((1, 1))]
+[2, 3, [((0, 0, 1), (1, 1, 1)), ((0, 1, 1),)]]
+>>> [maps_with((5, (1,), ()), (5, (1,), ()), ">", ((0, 1, 1),)), maps_with((5, (1,), ()), (5, (1,), ()), "<", ())]
+[4, 1]
+'''
+
+STAGE_28 = '''
+>>> from staybars.windows import Window
+>>> window = Window(L)
+>>> [window.lives_now(), window.pop_right(), window.mark_now(), window.push_left("<", 1, ((1,),))]
+[((0, 1, 1), (1, 2, 1)), (((1, 2, 1),), ((1, 1, 1),)), 0, (((0, 1, 1),), ((-1, 1, 1),))]
+>>> [window.first_place(), window.heap_now(), window.put_map(0, ">", ((0, 0),)), window.lives_now()]
+[-1, ((0, 2, 1), (2, 2, 1)), (((-1, 1, 1),), ((-1, 0, 1), (1, 1, 1))), ((-1, 0, 1), (1, 1, 2))]
+>>> [window.go_back(0), window.first_place(), window.lives_now()]
+[None, 0, ((0, 1, 1), (1, 1, 1))]
+'''
+
+STAGE_29 = '''
+>>> from staybars.desk import Desk, is_deed
+>>> desk = Desk((1, (), ()))
+>>> [desk.come(0, 1), desk.come(0, 1), desk.bind(0, 1, 0, 0), desk.heap("groups"), desk.heap("groups", way="meets")]
+[0, 1, 0, ((0, 2, 1), (2, 2, 1)), ((0, 2, 1), (1, 2, 1))]
+>>> [desk.change("groups"), desk.tried(("cut", 0), "groups"), desk.window(1, 1, "groups"), desk.heap("rings")]
+[(((0, 2, 1),), ((2, 2, 1),)), (((2, 2, 1),), ((0, 2, 1),)), ((0, 0, 2),), ()]
+>>> [desk.do_all([("turn",), ("come", 0, 0)]), desk.net, desk.heap("groups"), is_deed(("go", -1))]
+[[None, 2], (1, ((0, 1), (0, 1), (0, 0)), ((0, 1, 1, 1),)), ((0, 0, 1), (0, 1, 1), (0, 2, 1)), False]
+>>> [desk.undo(), desk.undo(), len(desk.deeds()), desk.story("groups"), desk.first]
+[None, None, 3, [(), ((0, 2, 1),), ((0, 2, 2),), ((0, 2, 1), (2, 2, 1))], (1, (), ())]
+'''
+
+STAGE_30 = r'''
+>>> from staybars.logs import account_of, common_rows, is_account, is_log, read_log, write_log
+>>> log = "net 1\ncome 0 1\ncome 0 1\nbind 0 1 0 0"
+>>> [write_log(read_log(log)) == log, is_log("net 1\ncome 0 2"), common_rows(log, "net 1\ncome 0 1\nturn")]
+[True, False, 1]
+>>> account_of(log, "groups", "meets")
+[(), ((0, 2, 1),), ((0, 2, 2),), ((0, 2, 1), (1, 2, 1))]
+>>> [is_account(log, "rings", "unions", [(), (), (), ()]), common_rows(log, "net 2"), read_log("net 1; point 0 1\nturn").net]
+[True, None, (1, ((0, 1),), ())]
+'''
+
+STAGE_31 = '''
+>>> from staybars.console import Console
+>>> console = Console()
+>>> [console.answer(line) for line in ["open a net 1", "come a 0 1", "come a 0 1", "bind a 0 1 0 0", "heap a groups unions"]]
+['ok', '0', '1', '0', '0-2*1 2-2*1']
+>>> [console.answer(line) for line in ["change a groups meets", "try a groups unions cut 0", "go a 1", "heap a rings unions"]]
+['gone 0-2*1 come 1-2*1', 'gone 2-2*1 come 0-2*1', '? PointHeld', '-']
+>>> [console.answer(line) for line in ["go b 1", "go a  1", "net a", "names"]]
+['? NoDesk', '? BadWords', 'net 1; point 0 1; point 0 1; tie 0 1 0 0', 'a']
 '''

@@ -5,8 +5,12 @@ sequence in which they are named: the error, the arguments that it concerns, wro
 and what its value holds, where this is not these arguments: other ones, or what a function finds in them.
 """
 
+import importlib
+
 
 class Case:
+    base = None
+
     def __init__(self, module, name, names, good, steps=()):
         self.module = module
         self.name = name
@@ -16,6 +20,18 @@ class Case:
 
     def named(self, args):
         return dict(zip(self.names, args))
+
+    def defined(self):
+        """The function as its file defines it."""
+        return vars(importlib.import_module("staybars." + self.module))[self.name]
+
+    def function(self):
+        """What is called with the arguments."""
+        return self.defined()
+
+    def right(self):
+        """Arguments by their names among which wrong ones are put."""
+        return self.named(self.good[0] if self.good else self.base or [None] * len(self.names))
 
 
 class Step:

@@ -1,22 +1,25 @@
 """[1]: names, kinds, sequences of errors and what is new, looked at for each function of the interface."""
 
 import copy
-import importlib
 import inspect
 import itertools
 import unittest
 
 import staybars.errors
-from tests import interface, interface_crossings, interface_forth, interface_papers
+from tests import interface, interface_crossings, interface_desks, interface_forth, interface_papers
 from tests.helpers import Checks, odd_values, outcome, shown
 
-CASES = interface.CASES + interface_papers.CASES + interface_crossings.CASES + interface_forth.CASES
-# The errors whose value is no argument, but a number of their own.
-NUMBERED = ("BadText", "TooMany")
+CASES = interface.CASES + interface_papers.CASES + interface_crossings.CASES + interface_forth.CASES + interface_desks.CASES
+# The errors whose value is no argument, but a number or a word of their own.
+NUMBERED = ("BadText", "TooMany", "TooLong", "TooShort", "BadLog", "NotDone", "PointHeld", "NoDeed")
 
 
 def function_of(case):
-    return getattr(importlib.import_module("staybars." + case.module), case.name)
+    return case.function()
+
+
+def is_method(case):
+    return isinstance(case, interface_desks.MethodCase)
 
 
 def error_of(step):
@@ -52,10 +55,17 @@ class TestInterface(Checks):
     def test_each_stands_in_its_file_with_its_names(self):
         for case in CASES:
             with self.subTest(case.name):
-                function = function_of(case)
+                function = case.defined()
                 self.assertTrue(inspect.isfunction(function))
                 self.assertEqual(function.__module__, "staybars." + case.module)
-                self.assertEqual(tuple(inspect.signature(function).parameters), case.names)
+                own = ("self",) if is_method(case) else ()
+                parameters = inspect.signature(function).parameters
+                self.assertEqual(tuple(parameters), own + case.names)
+                if is_method(case):
+                    for name in case.names:
+                        by_name = parameters[name].kind is inspect.Parameter.KEYWORD_ONLY
+                        self.assertEqual(by_name, name in case.by_name)
+                        self.assertEqual(parameters[name].default, "unions" if by_name else inspect.Parameter.empty)
 
     def test_arguments_by_place_and_by_name_in_any_sequence(self):
         for case in CASES:
@@ -103,24 +113,28 @@ class TestInterface(Checks):
         for case in CASES:
             for step in case.steps:
                 for wrong in step.wrong:
-                    for args in case.good[:1]:
-                        with self.subTest(case.name, error=step.error, wrong=shown(wrong)):
-                            named = {**case.named(args), **dict(zip(step.names, wrong))}
-                            self.expect(case, step, named)
+                    with self.subTest(case.name, error=step.error, wrong=shown(wrong)):
+                        named = {**case.right(), **dict(zip(step.names, wrong))}
+                        self.expect(case, step, named)
 
     def test_the_error_that_is_named_first_is_raised(self):
         for case in CASES:
             for many in range(2, len(case.steps) + 1):
                 for steps in itertools.combinations(case.steps, many):
                     with self.subTest(case.name, errors=[step.error for step in steps]):
-                        named = case.named(case.good[0])
+                        named = case.right()
                         for step in reversed(steps):
                             named.update(dict(zip(step.names, step.wrong[0])))
                         self.expect(case, steps[0], named)
 
     def expect(self, case, step, named):
         values = step.values(named)
-        if len(values) == 1:
+        if isinstance(values[0], interface_desks.Like):
+            told, error = outcome(lambda: function_of(case)(**named))
+            self.assertEqual([told, type(error)], ["raised", error_of(step)])
+            self.assertEqual(error.value, values[0].value)
+            self.assertIs(type(error.value), type(values[0].value))
+        elif len(values) == 1:
             self.raises(error_of(step), values[0], lambda: function_of(case)(**named))
         else:
             self.raises_tuple(error_of(step), values, lambda: function_of(case)(**named))
@@ -129,7 +143,9 @@ class TestInterface(Checks):
         for case in CASES:
             function = function_of(case)
             for name in case.names:
-                self.odd_values_for(case, function, name)
+                # Deeds are described as a list: only what stands in it is any value.
+                if name != "deeds":
+                    self.odd_values_for(case, function, name)
 
     def odd_values_for(self, case, function, name):
         """Each odd value as one argument: an answer, or an error named for this or a later one."""
@@ -141,7 +157,8 @@ class TestInterface(Checks):
                     told, answer = outcome(lambda: function(**named))
                     if told == "raised":
                         self.assertIn(type(answer), errors)
-                        if type(answer).__name__ not in NUMBERED:
+                        of_its_own = is_method(case) and type(answer).__name__ == "BadNet"
+                        if type(answer).__name__ not in NUMBERED and not of_its_own:
                             self.assertTrue(self.holds_an_argument(answer.value, named))
 
     def holds_an_argument(self, value, named):
@@ -158,7 +175,7 @@ class TestInterface(Checks):
                     for odd in odd_values():
                         wrong = dict(zip(step.names, step.wrong[0]))
                         with self.subTest(case.name, error=step.error, odd=shown(odd)):
-                            self.expect(case, step, {**case.named(case.good[0]), "value": odd, **wrong})
+                            self.expect(case, step, {**case.right(), "value": odd, **wrong})
 
     def test_whether_any_value_is_tells_true_or_false(self):
         for case in CASES:

@@ -10,10 +10,12 @@ FILES = sorted(PACKAGE.glob("*.py"))
 # The shown value of a prompt, which doctest keeps among the builtins, is none of them.
 BUILT_IN = set(dir(builtins)) - {"_"}
 BUILTINS = """len range enumerate zip min max sum abs sorted reversed int str bool list tuple dict set isinstance ord repr
-any all divmod ValueError""".split()
+any all divmod type property ValueError""".split()
 METHODS = "append count extend setdefault find get index items join keys pop values sort split startswith insert remove __init__".split()
 BARRED = """register mro elements open input law eval exec exit globals locals vars dir id type typing enum hash next iter
 compile format copyright credits help license quit""".split()
+# What a try may catch: errors of the package alone.
+CAUGHT = ("StayError", "BadText", "BadLog")
 
 
 def names_bound(tree):
@@ -30,6 +32,16 @@ def names_bound(tree):
 def tops(tree):
     """The statements of a file below its docstring."""
     return tree.body[1:]
+
+
+def methods_in(tree):
+    """The functions in the bodies of a file's classes."""
+    return [node for top in tree.body if isinstance(top, ast.ClassDef) for node in top.body if isinstance(node, ast.FunctionDef)]
+
+
+def own_methods():
+    """The names of the methods of all classes of the package."""
+    return [node.name for path in FILES for node in methods_in(ast.parse(path.read_text(encoding="ascii")))]
 
 
 class TestLanguage(unittest.TestCase):
@@ -64,6 +76,40 @@ class TestLanguage(unittest.TestCase):
                 if isinstance(node, (ast.FunctionDef, ast.ClassDef)):
                     self.assertEqual(node.decorator_list, [])
                     self.assertIsNotNone(ast.get_docstring(node), node.name)
+
+    def test_classes(self):
+        properties = []
+        for _, _, tree in self.each():
+            for top in tree.body:
+                if isinstance(top, ast.ClassDef):
+                    names = [node.name for node in top.body if isinstance(node, ast.FunctionDef)]
+                    self.assertEqual(len(names), len(set(names)))
+                    attributes = [node.attr for node in ast.walk(top) if isinstance(node, ast.Attribute) and isinstance(node.ctx, ast.Store)]
+                    self.assertFalse(set(names) & set(attributes))
+            for node in methods_in(tree):
+                self.assertIn([ast.unparse(held) for held in node.decorator_list], ([], ["property"]))
+                self.assertTrue(node.name == "__init__" or ast.get_docstring(node), node.name)
+                if node.decorator_list:
+                    properties.append(node.name)
+        for _, _, tree in self.each():
+            stored = [node.attr for node in ast.walk(tree) if isinstance(node, ast.Attribute) and isinstance(node.ctx, ast.Store)]
+            self.assertFalse(set(properties) & set(stored))
+        self.assertEqual(properties, ["net", "first"])
+
+    def test_what_is_caught_and_what_a_class_is_asked(self):
+        for _, _, tree in self.each():
+            for node in ast.walk(tree):
+                if isinstance(node, ast.Try):
+                    self.assertEqual([node.orelse, node.finalbody], [[], []])
+                    for handler in node.handlers:
+                        self.assertIn(handler.type.id, CAUGHT)
+                if isinstance(node, ast.Raise) and node.exc is not None:
+                    self.assertIsInstance(node.exc, ast.Call)
+                    self.assertTrue(node.cause is None or node.cause.value is None)
+            # A class of an object is asked for its name alone.
+            asked = [node.value for node in ast.walk(tree) if isinstance(node, ast.Attribute) and node.attr == "__name__"]
+            calls = [node for node in ast.walk(tree) if isinstance(node, ast.Call) and isinstance(node.func, ast.Name) and node.func.id == "type"]
+            self.assertEqual(asked, calls)
 
     def test_each_name_is_bound_once_at_module_level(self):
         for _, _, tree in self.each():
@@ -115,6 +161,7 @@ class TestLanguage(unittest.TestCase):
                     self.assertNotIn(node.arg if isinstance(node, ast.arg) else node.id, defined)
 
     def test_builtins_and_methods(self):
+        own = own_methods()
         for _, _, tree in self.each():
             for node in ast.walk(tree):
                 if isinstance(node, ast.Name) and node.id in BUILT_IN:
@@ -122,11 +169,11 @@ class TestLanguage(unittest.TestCase):
                 if isinstance(node, ast.Name) and node.id == "_":
                     self.assertIsInstance(node.ctx, ast.Store)
                 if isinstance(node, ast.Call) and isinstance(node.func, ast.Attribute):
-                    self.assertIn(node.func.attr, METHODS)
+                    self.assertIn(node.func.attr, METHODS + own)
 
     def test_statements(self):
         barred = (
-            ast.Global, ast.AsyncFunctionDef, ast.Lambda, ast.Try, ast.With, ast.Yield, ast.YieldFrom, ast.JoinedStr,
+            ast.Global, ast.AsyncFunctionDef, ast.Lambda, ast.With, ast.Yield, ast.YieldFrom, ast.JoinedStr,
             ast.NamedExpr, ast.Div, ast.Pow, ast.SetComp, ast.AnnAssign, ast.GeneratorExp,
         )
         for _, _, tree in self.each():
