@@ -23,11 +23,9 @@ def begun_desk(row):
 
 def do_row(desk, number, row):
     """Do the deed that a row of a log tells."""
-    deed = deed_of(row.split(" "))
-    if deed is None:
-        raise BadLog(number)
     try:
-        desk.do(deed)
+        # A row that tells no deed tells None, which no desk does.
+        desk.do(deed_of(row.split(" ")))
     except StayError:
         raise BadLog(number) from None
 

@@ -66,8 +66,6 @@ def searched_from(start, near, holders):
 
 def give_partners(end, met, partners, holders):
     """Give each bar on the way of a search the bar over there that it met."""
-    if end in holders:
-        del partners[holders[end]]
     there = end
     while there is not None:
         here = met[there]
@@ -95,7 +93,7 @@ def matched_bars(places, one, other, e):
     stuck = find_partners(numbers_near(places, ones, others, e), partners, holders)
     if stuck:
         return None, (ONE, tuple(sorted(set([ones[k] for k in stuck]))))
-    # Who has a partner by now keeps one: only bars of the other heap are left without again.
+    # Each of the ones that has a partner by now keeps one: only short ones of the others are left without again.
     stuck = find_partners(numbers_near(places, others, ones, e), holders, partners)
     if stuck:
         return None, (OTHER, tuple(sorted(set([others[k] for k in stuck]))))

@@ -61,12 +61,10 @@ def rows_matched(rows, theirs, matching):
 
 
 def row_ahead(line, row, e):
-    """A row of a forth line as it stands in the line e places on, None if it ended ahead of it."""
+    """A row of a forth line as it stands in the line e places on: on no place if it ended ahead of it."""
     a, b, _ = row
     last = len(line[2])
     high = last if stays(last + 1, row) else b - e
-    if high < 0:
-        return None
     low = max(a - e, 0)
     return low, high, tuple([entry_at(row, place_on(line, k, e)) for k in range(low, high + 1)])
 
